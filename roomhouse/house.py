@@ -1,0 +1,182 @@
+"""The house: the blocks and the runs of pages that they lie in."""
+
+from roomhouse.content import Content
+from roomhouse.pages import KEPT, Pages
+from roomhouse.refusals import NoBlock, NoPages, OutOfRange, check_range
+from roomhouse.sizes import (
+    GREATEST_SMALL, LEAST_MULTIPLE, PAGE, SMALL_SIZES, pages_for, pages_of_run, places_of_run, size_for,
+)
+
+MOST_BYTES = 1073741824
+LEAST_EXPONENT = 4
+MOST_EXPONENT = 12
+MOST_PUT = 4096
+MOST_BYTE = 255
+
+
+class Block:
+    """A block: the bytes asked for, those there are, the first page of its run, and what is in it."""
+
+    def __init__(self, size, room, run):
+        self.size = size
+        self.room = room
+        self.run = run
+        self.content = Content()
+
+    def is_great(self):
+        return self.room > GREATEST_SMALL
+
+
+class House:
+    """held holds the blocks by their places, small_runs the first pages of each small size's runs.
+
+    Which places of a run are free isn't kept besides: those are free at which no block is held.
+    """
+
+    def __init__(self):
+        self.pages = Pages()
+        self.held = {}
+        self.small_runs = {}
+
+    def begin(self, size, chunk, spare, given):
+        self.pages.begin(size, chunk, spare, given)
+        self.held = {}
+        self.small_runs = {}
+        for small in SMALL_SIZES:
+            self.small_runs[small] = []
+
+    def take(self, size, exponent, given):
+        """Take a block; its place."""
+        check_range(size, 0, MOST_BYTES)
+        check_range(exponent, LEAST_EXPONENT, MOST_EXPONENT)
+        return self.lay(size, 1 << exponent, given)
+
+    def give(self, place, given):
+        """Give a block up; its size."""
+        block = self.block_at(place)
+        self.drop(place, given)
+        return block.size
+
+    def resize(self, place, size, given):
+        """Make a block longer or shorter; its place then."""
+        check_range(size, 0, MOST_BYTES)
+        block = self.block_at(place)
+        if not self.can_stay(block, size, given):
+            return self.move(place, size, given)
+        block.size = size
+        block.content.cut(size)
+        return place
+
+    def told(self, place):
+        """A block's size and room."""
+        block = self.block_at(place)
+        return (block.size, block.room)
+
+    def holds(self, at):
+        """The place of the block that has the byte at that place."""
+        for place, block in self.held.items():
+            if place <= at < place + block.size:
+                return place
+        raise NoBlock()
+
+    def put(self, at, row):
+        """Put a row of bytes into a block."""
+        check_range(len(row), 0, MOST_PUT)
+        for byte in row:
+            check_range(byte, 0, MOST_BYTE)
+        if not row:
+            return
+        place = self.holds(at)
+        block = self.held[place]
+        if at + len(row) > place + block.size:
+            raise NoBlock()
+        block.content.write(at - place, row)
+
+    def block_at(self, place):
+        if place not in self.held:
+            raise NoBlock()
+        return self.held[place]
+
+    def lay(self, size, multiple, given):
+        """Find a place for a new block, and hold it there."""
+        small = size_for(size, multiple)
+        if small is None:
+            return self.lay_great(size, given)
+        return self.lay_small(size, small, given)
+
+    def lay_great(self, size, given):
+        pages = pages_for(size)
+        run = self.take_run(pages, 0, given)
+        place = run * PAGE
+        self.held[place] = Block(size, pages * PAGE, run)
+        return place
+
+    def lay_small(self, size, small, given):
+        runs = self.open_runs(small)
+        if not runs:
+            runs = [self.take_run(pages_of_run(small), KEPT, given)]
+            self.small_runs[small] = sorted(self.small_runs[small] + runs)
+        place = self.free_places(small, runs[0])[0]
+        self.held[place] = Block(size, small, runs[0])
+        return place
+
+    def take_run(self, pages, mark, given):
+        try:
+            # Exponent 0: no block is asked for at multiples of more than one page's bytes.
+            return self.pages.take(pages, 0, mark, given)
+        except OutOfRange:
+            # More pages than pages' take allows: the block's own numbers were in their ranges,
+            # so this is but one more way in which pages refuses.
+            raise NoPages()
+
+    def open_runs(self, small):
+        """The runs of a small size that have a free place, from the lowest on."""
+        return [run for run in self.small_runs[small] if self.free_places(small, run)]
+
+    def free_places(self, small, run):
+        return [place for place in places_of_run(small, run) if place not in self.held]
+
+    def drop(self, place, given):
+        """Free a block's place, and its run too where that isn't wanted any more."""
+        block = self.held.pop(place)
+        if not block.is_great():
+            if not self.is_surplus(block.room, block.run):
+                return
+            self.small_runs[block.room].remove(block.run)
+        self.pages.mark(block.run, 0)
+        self.pages.give(block.run, given)
+
+    def is_surplus(self, small, run):
+        """Whether all places of a run are free, and another run of its size has a free place."""
+        if len(self.free_places(small, run)) < len(places_of_run(small, run)):
+            return False
+        # The run itself is one of the open ones.
+        return len(self.open_runs(small)) > 1
+
+    def can_stay(self, block, size, given):
+        """Whether a block can have so many bytes where it lies; a great one's run is as long as that then."""
+        if not block.is_great():
+            return size_for(size, LEAST_MULTIPLE) == block.room
+        return size > GREATEST_SMALL and self.stretch(block, pages_for(size), given)
+
+    def stretch(self, block, pages, given):
+        """Give a great block's run so many pages; whether pages didn't refuse."""
+        if pages * PAGE == block.room:
+            return True
+        try:
+            self.pages.grow(block.run, pages, given)
+        except OutOfRange:
+            return False
+        except NoPages:
+            return False
+        block.room = pages * PAGE
+        return True
+
+    def move(self, place, size, given):
+        """Take another block for this one's bytes, and give this one up; the other's place."""
+        goal = self.lay(size, LEAST_MULTIPLE, given)
+        other = self.held[goal]
+        other.content = self.held[place].content
+        other.content.cut(size)
+        self.drop(place, given)
+        return goal
