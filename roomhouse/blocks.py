@@ -11,9 +11,18 @@ RESIZE = 3
 TOLD = 4
 HOLDS = 5
 PUT = 6
+GET = 7
+COPY = 8
+BLOCKS = 9
+COUNTS = 10
+SUMS = 11
+TRIM = 12
 
 # By the calls' numbers: how many whole numbers a call has, and whether a row stands behind them.
-FORMS = ((3, True), (2, True), (1, True), (2, True), (1, False), (1, False), (1, True))
+FORMS = (
+    (3, True), (2, True), (1, True), (2, True), (1, False), (1, False), (1, True),
+    (2, False), (3, False), (2, False), (0, False), (0, False), (0, True),
+)
 
 NO_BLOCK = -5
 NO_PAGES = -7
@@ -60,6 +69,7 @@ def answer_or_refusal(house, number, numbers, row, given):
 
 
 def answer_of(house, number, numbers, row, given):
+    """What a call answers, what it asks left out."""
     if number == BEGIN:
         house.begin(numbers[0], numbers[1], numbers[2], given)
         return [0]
@@ -69,9 +79,26 @@ def answer_of(house, number, numbers, row, given):
         return [house.give(numbers[0], given)]
     if number == RESIZE:
         return [house.resize(numbers[0], numbers[1], given)]
+    if number == TRIM:
+        return [house.trim(given)]
+    return answer_without_asks(house, number, numbers, row)
+
+
+def answer_without_asks(house, number, numbers, row):
     if number == TOLD:
         return list(house.told(numbers[0]))
     if number == HOLDS:
         return [house.holds(numbers[0])]
-    house.put(numbers[0], row)
-    return [0]
+    if number == PUT:
+        house.put(numbers[0], row)
+        return [0]
+    if number == GET:
+        return [0] + house.get(numbers[0], numbers[1])
+    if number == COPY:
+        house.copy(numbers[0], numbers[1], numbers[2])
+        return [0]
+    if number == BLOCKS:
+        return house.blocks(numbers[0], numbers[1])
+    if number == COUNTS:
+        return [0] + house.counts()
+    return [0] + house.sums()

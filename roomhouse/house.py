@@ -10,8 +10,11 @@ from roomhouse.sizes import (
 MOST_BYTES = 1073741824
 LEAST_EXPONENT = 4
 MOST_EXPONENT = 12
-MOST_PUT = 4096
+MOST_HANDED = 4096
+MOST_COPIED = 1048576
+MOST_LISTED = 1024
 MOST_BYTE = 255
+HIGHEST = 9223372036854775807
 
 
 class Block:
@@ -64,7 +67,7 @@ class House:
         if not self.can_stay(block, size, given):
             return self.move(place, size, given)
         block.size = size
-        block.content.cut(size)
+        block.content.blank(size, MOST_BYTES)
         return place
 
     def told(self, place):
@@ -81,21 +84,79 @@ class House:
 
     def put(self, at, row):
         """Put a row of bytes into a block."""
-        check_range(len(row), 0, MOST_PUT)
+        check_range(len(row), 0, MOST_HANDED)
         for byte in row:
             check_range(byte, 0, MOST_BYTE)
-        if not row:
+        if row:
+            place = self.holds_all(at, len(row))
+            self.held[place].content.write(at - place, tuple(row))
+
+    def get(self, at, many):
+        """So many bytes of a block, from place at on."""
+        check_range(many, 0, MOST_HANDED)
+        if many == 0:
+            return []
+        place = self.holds_all(at, many)
+        return self.held[place].content.read(at - place, many)
+
+    def copy(self, origin, goal, many):
+        """Put so many bytes from place origin on to place goal, too."""
+        check_range(many, 0, MOST_COPIED)
+        if many == 0:
             return
-        place = self.holds(at)
-        block = self.held[place]
-        if at + len(row) > place + block.size:
-            raise NoBlock()
-        block.content.write(at - place, row)
+        source = self.holds_all(origin, many)
+        target = self.holds_all(goal, many)
+        # All is read before anything is written, since the two stretches may overlap.
+        parts = self.held[source].content.parts(origin - source, many)
+        self.held[target].content.overwrite(goal - target, many, parts)
+
+    def blocks(self, start, most):
+        """How many blocks there are; then place and size of some, from the start-th on."""
+        check_range(start, 0, HIGHEST)
+        check_range(most, 0, MOST_LISTED)
+        listed = [len(self.held)]
+        for place in sorted(self.held)[start:start + most]:
+            listed.extend([place, self.held[place].size])
+        return listed
+
+    def counts(self):
+        """For each small size how many runs and blocks it has; then how many great blocks there are."""
+        rooms = [block.room for block in self.held.values()]
+        counted = []
+        for small in SMALL_SIZES:
+            counted.extend([len(self.small_runs[small]), rooms.count(small)])
+        great = [room for room in rooms if room > GREATEST_SMALL]
+        return counted + [len(great)]
+
+    def sums(self):
+        """How many blocks there are, their sizes, their rooms, the bytes of all runs; then pages' sums."""
+        sizes = [block.size for block in self.held.values()]
+        rooms = [block.room for block in self.held.values()]
+        # Pages are taken for runs of blocks alone. A run that is kept with all its places free is one of them.
+        taken = self.pages.taken()
+        return [len(sizes), sum(sizes), sum(rooms), taken * PAGE] + self.pages.sums()
+
+    def trim(self, given):
+        """Give up all runs without a block, then all free pages; how many pages were given back."""
+        before = self.pages.given_back
+        for small in SMALL_SIZES:
+            for run in list(self.small_runs[small]):
+                if self.is_empty(small, run):
+                    self.give_up_small(small, run, given)
+        self.pages.trim(0, given)
+        return self.pages.given_back - before
 
     def block_at(self, place):
         if place not in self.held:
             raise NoBlock()
         return self.held[place]
+
+    def holds_all(self, at, many):
+        """The place of the block that has all of so many bytes from place at on."""
+        place = self.holds(at)
+        if at + many > place + self.held[place].size:
+            raise NoBlock()
+        return place
 
     def lay(self, size, multiple, given):
         """Find a place for a new block, and hold it there."""
@@ -139,19 +200,27 @@ class House:
     def drop(self, place, given):
         """Free a block's place, and its run too where that isn't wanted any more."""
         block = self.held.pop(place)
-        if not block.is_great():
-            if not self.is_surplus(block.room, block.run):
-                return
-            self.small_runs[block.room].remove(block.run)
-        self.pages.mark(block.run, 0)
-        self.pages.give(block.run, given)
+        if block.is_great():
+            self.give_up(block.run, given)
+        elif self.is_surplus(block.room, block.run):
+            self.give_up_small(block.room, block.run, given)
+
+    def give_up_small(self, small, run, given):
+        self.small_runs[small].remove(run)
+        self.give_up(run, given)
+
+    def give_up(self, run, given):
+        self.pages.mark(run, 0)
+        self.pages.give(run, given)
 
     def is_surplus(self, small, run):
         """Whether all places of a run are free, and another run of its size has a free place."""
-        if len(self.free_places(small, run)) < len(places_of_run(small, run)):
-            return False
         # The run itself is one of the open ones.
-        return len(self.open_runs(small)) > 1
+        return self.is_empty(small, run) and len(self.open_runs(small)) > 1
+
+    def is_empty(self, small, run):
+        """Whether all places of a run are free."""
+        return len(self.free_places(small, run)) == len(places_of_run(small, run))
 
     def can_stay(self, block, size, given):
         """Whether a block can have so many bytes where it lies; a great one's run is as long as that then."""
@@ -177,6 +246,6 @@ class House:
         goal = self.lay(size, LEAST_MULTIPLE, given)
         other = self.held[goal]
         other.content = self.held[place].content
-        other.content.cut(size)
+        other.content.blank(size, MOST_BYTES)
         self.drop(place, given)
         return goal

@@ -11,14 +11,14 @@ KEPT = 4
 
 
 class Pages:
-    """The house's pages; free holds its free rows, runs the end and the mark of each run by its first page."""
+    """The house's pages; free holds its free rows, runs the end and the mark of each run by its first page.
+
+    The other numbers are counted since begin: how often more was asked and refused, how many pages came by it
+    and were given back, and the most pages that were the house's at once.
+    """
 
     def __init__(self):
-        self.size = 0
-        self.chunk = 1
-        self.spare = 0
-        self.free = []
-        self.runs = {}
+        self.make(0, 1, 0)
 
     def begin(self, size, chunk, spare, given):
         check_range(size, 1, MOST_PAGES)
@@ -26,11 +26,20 @@ class Pages:
         check_range(spare, 0, MOST_PAGES)
         for first, end in self.own_rows():
             given.less(first, end - first)
+        self.make(size, chunk, spare)
+
+    def make(self, size, chunk, spare):
+        """All pages are outside, and nothing is counted yet."""
         self.size = size
         self.chunk = chunk
         self.spare = spare
         self.free = []
         self.runs = {}
+        self.asked = 0
+        self.refused = 0
+        self.came = 0
+        self.given_back = 0
+        self.most_owned = 0
 
     def take(self, many, exponent, mark, given):
         """Take a run; its first page."""
@@ -77,7 +86,8 @@ class Pages:
         self.runs[first] = (self.runs[first][0], new_mark)
 
     def trim(self, most, given):
-        """Give back free pages, from the highest on, till no more than most are free."""
+        """Give back free pages, from the highest on, till no more than most are free; how many those were."""
+        before = self.given_back
         surplus = how_many(self.free) - most
         while surplus > 0:
             highest = self.free[-1]
@@ -85,7 +95,20 @@ class Pages:
             start = max(highest[0], end - surplus)
             self.free = without(self.free, start, end)
             given.less(start, end - start)
+            self.given_back += end - start
             surplus -= end - start
+        return self.given_back - before
+
+    def sums(self):
+        """The house's pages, those free and those taken; then what is counted since begin."""
+        free = how_many(self.free)
+        taken = self.taken()
+        counted = [self.asked, self.refused, self.came, self.given_back, self.most_owned]
+        return [free + taken, free, taken] + counted
+
+    def taken(self):
+        """How many pages are in runs."""
+        return sum([run[0] - first for first, run in self.runs.items()])
 
     def ask_for(self, many, multiple, given):
         """Ask for pages till an ask isn't refused or nothing is left to ask."""
@@ -101,9 +124,13 @@ class Pages:
         """Ask for so many pages; whether it wasn't refused: they're free then."""
         first = given.more(many)
         end = first + many
+        self.asked += 1
         if first < 0 or end > self.size or meets(self.own_rows(), first, end):
+            self.refused += 1
             return False
         self.set_free(first, end)
+        self.came += many
+        self.most_owned = max(self.most_owned, how_many(self.free) + self.taken())
         return True
 
     def own_rows(self):

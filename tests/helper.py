@@ -36,6 +36,30 @@ def put(at, row):
     return [6, at, len(row), *row]
 
 
+def get(at, n):
+    return [7, at, n]
+
+
+def copy(origin, to, n):
+    return [8, origin, to, n]
+
+
+def blocks(start, most):
+    return [9, start, most]
+
+
+def counts():
+    return [10]
+
+
+def sums():
+    return [11]
+
+
+def trim(g=()):
+    return [12, len(g), *g]
+
+
 def more(n):
     return (1, n)
 

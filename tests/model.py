@@ -5,6 +5,7 @@ It is slow and knows nothing of the package.
 
 PAGE = 4096
 OUTSIDE, FREE, TAKEN = 0, 1, 2
+NAMES = "begin take give resize told holds put get copy blocks counts sums trim".split()
 SMALL = [16 * k for k in range(1, 9)] + [2 ** d * k // 4 for d in range(7, 15) for k in (5, 6, 7, 8)]
 
 
@@ -20,15 +21,17 @@ def run_pages(z):
 
 class Model:
     def __init__(self):
-        self.state = []
+        # asked: all asks since begin; refused: how many of those were refused.
+        self.state, self.asked, self.refused, self.most_owned = [], [], 0, 0
 
     def ask(self, *ask):
         self.asks.append(ask)
+        self.asked.append(ask)
         return self.g.pop(0) if self.g else 0
 
     def call(self, number, numbers, row):
         self.asks, self.g = [], list(row) if number != 6 else []
-        name = ("begin", "take", "give", "resize", "told", "holds", "put")[number]
+        name = NAMES[number]
         try:
             answer = getattr(self, name)(*numbers, *([row] if number == 6 else []))
         except Refused as refused:
@@ -51,7 +54,7 @@ class Model:
     def set_pages(self, p, n, state):
         self.state[p:p + n] = [state] * n
 
-    def trim(self, k):
+    def trim_pages(self, k):
         while self.state.count(FREE) > k:
             p, n = self.rows([FREE])[-1]
             some = min(n, self.state.count(FREE) - k)
@@ -61,8 +64,11 @@ class Model:
     def ask_more(self, n):
         p = self.ask(1, n)
         if p < 0 or p + n > len(self.state) or any(self.state[p:p + n]):
+            self.refused += 1
             return False
         self.set_pages(p, n, FREE)
+        self.came += n
+        self.most_owned = max(self.most_owned, len(self.state) - self.state.count(OUTSIDE))
         return True
 
     def lowest(self, n):
@@ -81,7 +87,7 @@ class Model:
 
     def give_pages(self, p, n):
         self.set_pages(p, n, FREE)
-        self.trim(self.spare)
+        self.trim_pages(self.spare)
 
     # blocks: place -> [size, room]; runs: [first place, small size]
 
@@ -92,6 +98,7 @@ class Model:
             self.ask(2, p, n)
         self.state, self.chunk, self.spare = [OUTSIDE] * size, chunk, spare
         self.held, self.runs, self.memory = {}, [], {}
+        self.asked, self.refused, self.came, self.most_owned = [], 0, 0, 0
         return [0]
 
     def places(self, run):
@@ -186,11 +193,63 @@ class Model:
                 return [p]
         raise Refused(-5)
 
+    def need_bytes(self, at, n):
+        if n and not any(p <= at and at + n <= p + size for p, (size, _) in self.held.items()):
+            raise Refused(-5)
+
     def put(self, at, row):
-        if row:
-            p = self.holds(at)[0]
-            if self.held[p][0] < at - p + len(row):
-                raise Refused(-5)
-            for k, byte in enumerate(row):
-                self.memory[at + k] = byte
+        self.need_bytes(at, len(row))
+        for k, byte in enumerate(row):
+            self.memory[at + k] = byte
         return [0]
+
+    def get(self, at, n):
+        if not 0 <= n <= 4096:
+            raise Refused(-8)
+        self.need_bytes(at, n)
+        return [0] + [self.memory.get(at + k, 0) for k in range(n)]
+
+    def copy(self, origin, to, n):
+        if not 0 <= n <= 2 ** 20:
+            raise Refused(-8)
+        self.need_bytes(origin, n)
+        self.need_bytes(to, n)
+        new = {to + at - origin: byte for at, byte in self.memory.items() if origin <= at < origin + n}
+        self.clear(to, n)
+        self.memory.update(new)
+        return [0]
+
+    # what is there
+
+    def blocks(self, start, most):
+        if start < 0 or not 0 <= most <= 1024:
+            raise Refused(-8)
+        asked = [pair for turn, pair in enumerate(sorted(self.held.items())) if start <= turn < start + most]
+        return [len(self.held)] + [number for p, (size, _) in asked for number in (p, size)]
+
+    def counts(self):
+        answer = [0]
+        for z in SMALL:
+            answer.append(sum(1 for run in self.runs if run[1] == z))
+            answer.append(sum(1 for _, room in self.held.values() if room == z))
+        return answer + [sum(1 for _, room in self.held.values() if room > 32768)]
+
+    def sums(self):
+        sizes = sum(size for size, _ in self.held.values())
+        rooms = sum(room for _, room in self.held.values())
+        bytes_of_runs = sum(run_pages(z) * PAGE for _, z in self.runs)
+        bytes_of_runs += sum(room for _, room in self.held.values() if room > 32768)
+        states = [self.state.count(state) for state in (FREE, TAKEN)]
+        return [
+            0, len(self.held), sizes, rooms, bytes_of_runs, sum(states), *states,
+            sum(1 for ask in self.asked if ask[0] == 1), self.refused, self.came,
+            sum(ask[2] for ask in self.asked if ask[0] == 2), self.most_owned,
+        ]
+
+    def trim(self):
+        for run in sorted(self.runs, key=lambda run: (run[1], run[0])):
+            if all(p not in self.held for p in self.places(run)):
+                self.runs.remove(run)
+                self.give_pages(run[0] // PAGE, run_pages(run[1]))
+        self.trim_pages(0)
+        return [sum(n for _, _, n in self.asks)]

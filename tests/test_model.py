@@ -7,6 +7,9 @@ from tests.helper import PAGE, flat, split
 from tests.model import SMALL, Model
 
 
+WITH_ROW = (0, 1, 2, 3, 6, 12)
+
+
 class Maker:
     """Makes calls that fit what a model holds just then, some of them wrong."""
 
@@ -51,7 +54,7 @@ class Maker:
     def at(self):
         place = self.place()
         size = self.model.held.get(place, (0, 0))[0]
-        return place + self.random.choice((0, 0, size - 1, size, self.random.randint(0, size)))
+        return place + self.random.choice((0, 0, 0, 0, 0, 7, size - 1, size, self.random.randint(0, size)))
 
     def begin(self):
         pick = self.random
@@ -59,7 +62,7 @@ class Maker:
 
     def call(self):
         pick = self.random
-        number = pick.choices(range(7), (1, 30, 15, 25, 5, 5, 19))[0]
+        number = pick.choices(range(13), (1, 30, 12, 20, 3, 3, 25, 12, 16, 3, 3, 4, 3))[0]
         if number == 0:
             return self.begin()
         if number == 1:
@@ -70,8 +73,36 @@ class Maker:
             place = self.place()
             return 3, [place, pick.choice((self.bytes_asked(), self.bytes_near(place)))], self.numbers()
         if number == 6:
-            return 6, [self.at()], [pick.randint(0, 255) for _ in range(pick.choice((0, 1, 3, 40, 700)))]
-        return number, [self.place() if number == 4 else self.at()], []
+            at = self.at()
+            many = pick.choice((0, 1, 3, 40, 700, *[min(self.bytes_from(at), 700)] * 9))
+            return 6, [at], [pick.randint(0, 255) for _ in range(many)]
+        if number == 12:
+            return 12, [], self.numbers()
+        return number, self.numbers_without_row(number), []
+
+    def numbers_without_row(self, number):
+        pick = self.random
+        if number == 4:
+            return [self.place()]
+        if number == 5:
+            return [self.at()]
+        if number == 7:
+            at = self.at()
+            return [at, pick.choice((0, 1, 20, 4096, 4097, -1, *[min(self.bytes_from(at), 4096)] * 12))]
+        if number == 8:
+            origin, to = self.at(), self.at()
+            if pick.random() < 0.4:
+                origin = max(0, to + pick.randint(-5, 5))
+            both = min(self.bytes_from(origin), self.bytes_from(to))
+            return [origin, to, pick.choice((0, 1, 20, 2 ** 20, 2 ** 20 + 1, -1, both + 1, *[both] * 12))]
+        if number == 9:
+            return [pick.choice((0, 0, 1, 3, 10, -1)), pick.choice((0, 1, 2, 5, 1024, 1024, 1025, -1))]
+        return []
+
+    def bytes_from(self, at):
+        """How many bytes a block has from that place on."""
+        held = self.model.held.items()
+        return next((place + size - at for place, (size, _) in held if place <= at < place + size), 1)
 
 
 class ModelTest(unittest.TestCase):
@@ -95,7 +126,7 @@ class ModelTest(unittest.TestCase):
                 with self.subTest(seed=seed, turn=turn, call=(number, numbers, row)):
                     self.assertEqual(whole_answer(house, number, numbers, list(row)), answer)
                 expected.append(answer)
-                calls.append([number, *numbers, *([] if number in (4, 5) else [len(row)]), *row])
+                calls.append([number, *numbers, *([len(row)] if number in WITH_ROW else []), *row])
                 if turn % 5 == 4:
                     self.compare_bytes(house, maker.model)
             self.assertEqual(answers(flat(calls)), flat([[len(answer), *answer] for answer in expected]))

@@ -3,6 +3,7 @@
 import unittest
 
 from roomhouse.given import Given
+from roomhouse.house import House
 from roomhouse.pages import Pages
 from roomhouse.refusals import NoPages, OutOfRange, RunKept
 from tests.helper import less, more
@@ -26,6 +27,7 @@ class TakeTest(unittest.TestCase):
     def test_at_last_the_pages_alone_are_asked_for(self):
         self.assertEqual(self.taken(new_pages(99, 20, 0), 3, 3, [-1, -1, 16]), (16, [more(20), more(10), more(3)]))
         self.assertEqual(self.taken(new_pages(99, 10, 0), 3, 3, [-1, 16]), (16, [more(10), more(3)]))
+        self.assertEqual(self.taken(new_pages(99, 1, 0), 3, 1, [-1, 16]), (16, [more(4), more(3)]))
 
     def test_pages_that_came_by_an_ask_are_the_house_s(self):
         pages = new_pages(99, 1, 0)
@@ -45,6 +47,11 @@ class TakeTest(unittest.TestCase):
             with self.assertRaises(OutOfRange):
                 new_pages(99, 1, 0).take(many, exponent, mark, given)
             self.assertEqual(given.asks, [])
+
+    def test_the_ends_of_the_ranges(self):
+        pages = new_pages(16384, 1, 0)
+        self.assertEqual(pages.take(1, 10, 7, Given([1000])), 1024)
+        self.assertEqual(pages.runs, {1024: (1025, 7)})
 
 
 class GivenTest(unittest.TestCase):
@@ -69,6 +76,45 @@ class MarkTest(unittest.TestCase):
         self.assertEqual(pages.grow(first, 4, given), 4)
         self.assertEqual(pages.give(first, given), 4)
         self.assertEqual(given.asks, [less(0, 9)])
+
+
+    def test_the_marks_of_the_house_s_runs(self):
+        house = House()
+        house.begin(99, 1, 0, Given([]))
+        house.take(16, 4, Given([3]))
+        house.take(40000, 4, Given([20]))
+        self.assertEqual(house.pages.runs, {3: (4, 4), 20: (30, 0)})
+
+    def test_ranges(self):
+        pages = new_pages(99, 9, 0)
+        first = pages.take(3, 0, 4, Given([]))
+        for wrong in (-1, 8):
+            with self.assertRaises(OutOfRange):
+                pages.mark(first, wrong)
+        self.assertEqual(pages.runs, {0: (3, 4)})
+        pages.mark(first, 7)
+        self.assertEqual(pages.runs, {0: (3, 7)})
+
+
+class TrimTest(unittest.TestCase):
+    def test_to_so_many(self):
+        pages = new_pages(99, 9, 20)
+        first = pages.take(3, 0, 0, Given([50]))
+        for most, asks, answer, free in (
+            (6, [], 0, [(53, 59)]), (4, [less(57, 2)], 2, [(53, 57)]), (3, [less(56, 1)], 1, [(53, 56)]),
+        ):
+            given = Given([])
+            self.assertEqual((pages.trim(most, given), given.asks, pages.free), (answer, asks, free))
+        self.assertEqual(pages.give(first, Given([])), 3)
+        self.assertEqual(pages.free, [(50, 56)])
+
+
+class SumsTest(unittest.TestCase):
+    def test_pages_that_came_for_a_refused_take(self):
+        pages = new_pages(99, 1, 0)
+        with self.assertRaises(NoPages):
+            pages.take(3, 3, 0, Given([-1, 9]))
+        self.assertEqual(pages.sums(), [3, 3, 0, 2, 1, 3, 0, 3])
 
 
 class GrowTest(unittest.TestCase):

@@ -50,7 +50,7 @@ class PutTest(unittest.TestCase):
 
 
 class BytesTest(unittest.TestCase):
-    """What stands in a block: no call of this stage tells it, so the house itself is asked."""
+    """What stands in a block, asked of the house itself, whole and without get."""
 
     def setUp(self):
         self.house = House()

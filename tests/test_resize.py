@@ -138,7 +138,7 @@ class RefusedTest(unittest.TestCase):
 
 
 class BytesTest(unittest.TestCase):
-    """What stays in a block: no call of this stage tells it, so the house itself is asked."""
+    """What stays in a block, asked of the house itself, whole and without get."""
 
     def house(self, size, chunk, row, at=0):
         house = House()
